@@ -1,0 +1,1 @@
+"""Again from what happened: an errand gone through again by its book."""

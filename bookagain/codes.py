@@ -1,0 +1,36 @@
+"""The numbers by which the document tells statements, bids, happenings and ends."""
+
+NOTHING = 0
+ASSIGN = 1
+STEP = 2
+WAIT = 3
+LISTEN = 4
+SEND = 5
+FAIL = 6
+THEN = 7
+CHOICE = 8
+LOOP = 9
+BESIDE = 10
+LIMIT = 11
+CATCH = 12
+DEAL = 13
+CHANGE = 14
+
+BID_ASK = 0
+BID_TIMER = 1
+BID_STOP = 2
+BID_CALL_OFF = 3
+BID_CHANGE = 4
+BID_SEND = 5
+BID_END = 6
+
+HAS_DONE = 0
+HAS_FAILED = 1
+HAS_NEVER_DONE = 2
+HAS_FIRED = 3
+HAS_WORD = 4
+HAS_CALLED_OFF = 5
+
+WELL = 1
+FAILED = 2
+OFF = 3

@@ -1,0 +1,240 @@
+"""Short names for what texts and books are made of, and the checks that every book goes through."""
+
+import unittest
+
+from bookagain.errand import fits, writes
+
+WHOLE = 2 ** 32
+
+
+# Expressions.
+
+def num(n):
+    return [0, n]
+
+
+def var(v):
+    return [1, v]
+
+
+def plus(a, b):
+    return [2] + a + b
+
+
+def less_by(a, b):
+    return [3] + a + b
+
+
+def times(a, b):
+    return [4] + a + b
+
+
+def is_less(a, b):
+    return [5] + a + b
+
+
+def alike(a, b):
+    return [6] + a + b
+
+
+# Statements.
+
+def nothing():
+    return [0]
+
+
+def put(v, e):
+    return [1, v] + e
+
+
+def step(k, e, v, b=0):
+    return [2, k] + e + [v, b]
+
+
+def wait(e):
+    return [3] + e
+
+
+def listen(c, v):
+    return [4, c, v]
+
+
+def send(m, c, e):
+    return [5] + m + [c] + e
+
+
+def fail(e):
+    return [6] + e
+
+
+def then(first, *others):
+    return [7] + first + then(*others) if others else first
+
+
+def choice(e, a, b):
+    return [8] + e + a + b
+
+
+def loop(e, a):
+    return [9] + e + a
+
+
+def beside(a, b):
+    return [10] + a + b
+
+
+def limit(e, a, b):
+    return [11] + e + a + b
+
+
+def catch(v, a, b):
+    return [12, v] + a + b
+
+
+def deal(a):
+    return [13] + a
+
+
+def change(n, a, b):
+    return [14, n] + a + b
+
+
+# What happens.
+
+def done(i, x):
+    return [0, i, x]
+
+
+def failed(i, x):
+    return [1, i, x]
+
+
+def never(i):
+    return [2, i, 0]
+
+
+def fired(i):
+    return [3, i, 0]
+
+
+def word(c, x):
+    return [4, c, x]
+
+
+def off():
+    return [5, 0, 0]
+
+
+# Bids.
+
+def ask(k, x):
+    return [0, k, x, 0]
+
+
+def timer(t):
+    return [1, t, 0, 0]
+
+
+def stop(i):
+    return [2, i, 0, 0]
+
+
+def call_off(i):
+    return [3, i, 0, 0]
+
+
+def taken(n):
+    return [4, n, 0, 0]
+
+
+def told(m, x, c):
+    return [5, m, x, c]
+
+
+def ended_well():
+    return [6, 1, 0, 0]
+
+
+def ended_failed(x):
+    return [6, 2, x, 0]
+
+
+def ended_off():
+    return [6, 3, 0, 0]
+
+
+def joined(rows):
+    return [number for row in rows for number in row]
+
+
+def sizes_of(pages):
+    return [len(page) for page in pages]
+
+
+def bids_of(pages):
+    return joined(joined(pages))
+
+
+def with_page(pages, at, page):
+    return pages[:at] + [page] + pages[at + 1:]
+
+
+def changed_pages(pages, at):
+    """The book with its page `at` changed in one place, in every way but one that mends itself."""
+    page = pages[at]
+    for i in range(len(page)):
+        yield with_page(pages, at, page[:i] + page[i + 1:])
+        for k in range(4):
+            other = list(page[i])
+            other[k] = other[k] + 1 if k > 0 else (other[k] + 1) % 7
+            yield with_page(pages, at, page[:i] + [other] + page[i + 1:])
+        if i > 0 and page[i - 1] != page[i]:
+            yield with_page(pages, at, page[:i - 1] + [page[i], page[i - 1]] + page[i + 1:])
+    for i in range(len(page) + 1):
+        yield with_page(pages, at, page[:i] + [ask(7, 77)] + page[i:])
+        yield with_page(pages, at, page[:i] + [ended_well()] + page[i:])
+    if page:
+        yield with_page(pages, at, [])
+    for other in range(at + 1, len(pages)):
+        if page:
+            moved = with_page(pages, at, page[:-1])
+            yield with_page(moved, other, page[-1:] + pages[other])
+        if pages[other]:
+            moved = with_page(pages, at, page + pages[other][:1])
+            yield with_page(moved, other, pages[other][1:])
+
+
+class BookCase(unittest.TestCase):
+    def answer(self, call, *given):
+        """What the call answers; it leaves what it's given as it was, and answers alike again."""
+        kept = [list(one) if isinstance(one, list) else one for one in given]
+        answer = call(*given)
+        self.assertEqual(list(given), kept)
+        self.assertEqual(call(*given), answer)
+        self.assertTrue(all(isinstance(one, int) and not isinstance(one, bool) for one in answer))
+        return answer
+
+    def assert_writes(self, x, text, happenings, pages):
+        told_pages = sizes_of(pages) + bids_of(pages)
+        wanted = [len(told_pages)] + told_pages
+        self.assertEqual(self.answer(writes, x, text, joined(happenings)), wanted)
+
+    def assert_fits(self, x, text, happenings, pages, wanted):
+        given = (x, text, joined(happenings), sizes_of(pages), bids_of(pages))
+        self.assertEqual(self.answer(fits, *given), [wanted], given)
+
+    def assert_refused(self, x, text, happenings, number):
+        self.assertEqual(self.answer(writes, x, text, joined(happenings)), [number], (text, happenings))
+
+    def check(self, x, text, first_page, *later):
+        """`later` are pairs: what happened, and the page by it. What is written is just that; it fits,
+        and so does all that's ahead of any page; changed at any page it ceases to fit there."""
+        happenings = [pair[0] for pair in later]
+        pages = [first_page] + [pair[1] for pair in later]
+        self.assert_writes(x, text, happenings, pages)
+        self.assert_fits(x, text, happenings, pages, -6)
+        for at in range(len(pages)):
+            self.assert_fits(x, text, happenings[:at], pages[:at + 1], -6)
+            for changed in changed_pages(pages, at):
+                self.assert_fits(x, text, happenings, changed, at)
+                self.assert_fits(x, text, happenings[:at], changed[:at + 1], at)
