@@ -29,6 +29,12 @@ def read_happenings(h):
     return happenings
 
 
+# Page by page: what happened (None at the first, where it begins), and the bids by that.
+def read_book(h, sizes, bids):
+    happenings = read_happenings(h)
+    return list(zip([None] + happenings, read_pages(happenings, sizes, bids)))
+
+
 # The bids page by page: one page more than there are happenings.
 def read_pages(happenings, sizes, bids):
     fours = cut(bids, 4)

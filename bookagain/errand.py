@@ -1,7 +1,8 @@
-"""The calls: what a text writes, and where a book ceases to fit it."""
+"""The calls: what a text writes; whether a book fits it, what the text meant, and where the errand stands."""
 
+from bookagain.again import Again
 from bookagain.at_once import check_loops
-from bookagain.book import read_happenings, read_pages
+from bookagain.book import read_happenings
 from bookagain.going import Errand
 from bookagain.reading import read_text
 from bookagain.refusals import CouldNotHappen, LoopMustWait, Malformed
@@ -23,16 +24,34 @@ def writes(x, text, h):
 
 def fits(x, text, h, sizes, bids):
     try:
-        statement = read_text(text)
-        happenings = read_happenings(h)
-        pages = read_pages(happenings, sizes, bids)
-        check_loops(statement)
+        again = Again(x, text, h, sizes, bids)
     except Malformed:
         return [-22]
     except LoopMustWait:
         return [-33]
-    fitting = fitting_pages(Errand(statement, x), happenings, pages)
-    return [-6] if fitting == len(pages) else [fitting]
+    return [-6] if again.all_fits() else [again.fitting]
+
+
+def meant(x, text, h, sizes, bids):
+    try:
+        again = Again(x, text, h, sizes, bids)
+        return [-6] if again.all_fits() else told_page(again.meant_page())
+    except Malformed:
+        return [-22]
+    except LoopMustWait:
+        return [-33]
+    except CouldNotHappen:
+        return [-16]
+
+
+def stands(x, text, h, sizes, bids):
+    try:
+        again = Again(x, text, h, sizes, bids)
+    except Malformed:
+        return [-22]
+    except LoopMustWait:
+        return [-33]
+    return again.errand_behind_fitting().told_standing() if again.all_fits() else [-34]
 
 
 def written_pages(errand, happenings):
@@ -48,16 +67,16 @@ def written_pages(errand, happenings):
 def told_book(pages):
     told = [len(page) for page in pages]
     for page in pages:
-        for four in page:
-            told.extend(four)
+        told.extend(numbers_of(page))
     return [len(told)] + told
 
 
-# How many pages fit ahead of the first that doesn't.
-def fitting_pages(errand, happenings, pages):
-    fitting = 0
-    for three, page in zip([None] + happenings, pages):
-        if errand.go_page(three, page) != page:
-            break
-        fitting += 1
-    return fitting
+def told_page(page):
+    return [len(page)] + numbers_of(page)
+
+
+def numbers_of(page):
+    found = []
+    for four in page:
+        found.extend(four)
+    return found

@@ -1,7 +1,7 @@
 """An errand as it goes: what it holds, what it bids, and what may happen to it."""
 
 from bookagain.codes import ASSIGN, BID_ASK, BID_CALL_OFF, BID_CHANGE, BID_END, BID_SEND, BID_STOP, BID_TIMER
-from bookagain.codes import CHANGE, CHOICE, DEAL, FAIL, FAILED, NOTHING, SEND, WELL
+from bookagain.codes import CHANGE, CHOICE, DEAL, FAIL, FAILED, GOES_ON, NOTHING, SEND, WELL
 from bookagain.codes import HAS_CALLED_OFF, HAS_FIRED, HAS_NEVER_DONE, HAS_WORD
 from bookagain.strands import Deal, strand_of
 from bookagain.worth import worth_of
@@ -37,6 +37,11 @@ class Errand:
             return None
         self.hear_words()
         return self.bids[self.page_start:]
+
+    # Twelve numbers: how it ended and with what, the variables, how many listen, how many words aren't heard.
+    def told_standing(self):
+        end = (GOES_ON, 0) if self.final_end is None else self.final_end
+        return list(end) + self.variables + [len(self.whole.listeners()), len(self.words)]
 
     def could_happen(self, three):
         kind = three[0]

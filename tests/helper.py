@@ -2,9 +2,12 @@
 
 import unittest
 
-from bookagain.errand import fits, writes
+from bookagain.errand import fits, meant, stands, writes
 
 WHOLE = 2 ** 32
+GOES_ON = (0, 0)
+WELL = (1, 0)
+OFF = (3, 0)
 
 
 # Expressions.
@@ -226,15 +229,36 @@ class BookCase(unittest.TestCase):
     def assert_refused(self, x, text, happenings, number):
         self.assertEqual(self.answer(writes, x, text, joined(happenings)), [number], (text, happenings))
 
+    def assert_meant(self, x, text, happenings, pages, wanted):
+        """`wanted` is a page, or the number alone."""
+        given = (x, text, joined(happenings), sizes_of(pages), bids_of(pages))
+        told_page = [wanted] if isinstance(wanted, int) else [len(wanted)] + joined(wanted)
+        self.assertEqual(self.answer(meant, *given), told_page, given)
+
+    def assert_stands(self, x, text, happenings, pages, end, held, listening=0, unheard=0):
+        """`held` is what the first variables hold; there's 0 in all behind them."""
+        given = (x, text, joined(happenings), sizes_of(pages), bids_of(pages))
+        wanted = list(end) + held + [0] * (8 - len(held)) + [listening, unheard]
+        self.assertEqual(self.answer(stands, *given), wanted, given)
+
+    def assert_does_not_fit(self, x, text, happenings, pages, at):
+        """It doesn't fit from page `at` on, as fits and stands tell it."""
+        self.assert_fits(x, text, happenings, pages, at)
+        given = (x, text, joined(happenings), sizes_of(pages), bids_of(pages))
+        self.assertEqual(self.answer(stands, *given), [-34], given)
+
     def check(self, x, text, first_page, *later):
         """`later` are pairs: what happened, and the page by it. What is written is just that; it fits,
-        and so does all that's ahead of any page; changed at any page it ceases to fit there."""
+        and so does all that's ahead of any page; changed at any page it ceases to fit there, where that
+        page was meant."""
         happenings = [pair[0] for pair in later]
         pages = [first_page] + [pair[1] for pair in later]
         self.assert_writes(x, text, happenings, pages)
         self.assert_fits(x, text, happenings, pages, -6)
         for at in range(len(pages)):
             self.assert_fits(x, text, happenings[:at], pages[:at + 1], -6)
+            self.assert_meant(x, text, happenings[:at], pages[:at + 1], -6)
             for changed in changed_pages(pages, at):
-                self.assert_fits(x, text, happenings, changed, at)
+                self.assert_does_not_fit(x, text, happenings, changed, at)
                 self.assert_fits(x, text, happenings[:at], changed[:at + 1], at)
+                self.assert_meant(x, text, happenings, changed, pages[at])

@@ -2,7 +2,7 @@
 
 import random
 
-from bookagain.errand import fits, writes
+from bookagain.errand import fits, meant, stands, writes
 from helper import BookCase, WHOLE
 from helper import num, var, plus, nothing, put, step, wait, listen, send, fail, then, choice, loop, beside
 from helper import limit, catch, deal, change
@@ -78,6 +78,53 @@ class Holds(BookCase):
                     so_far = fits(x, text, h[:3 * count], ahead, changed[:4 * sum(ahead)])
                     self.assertEqual(so_far, [wanted])
 
+    def test_what_a_text_writes_goes_on_as_if_it_had_not_stopped(self):
+        for dice, x, text, h, sizes, bids in self.books(5):
+            for count in range(len(sizes)):
+                ahead = sum(sizes[:count])
+                page = bids[4 * ahead:4 * (ahead + sizes[count])]
+                longer = bids[:4 * ahead] + [5, 98, 99, 3]
+                given = (x, text, h[:3 * count], sizes[:count] + [1], longer)
+                self.assertEqual(self.answer(meant, *given), [sizes[count]] + page)
+                self.assertEqual(self.answer(stands, *given), [-34])
+
+    def test_what_is_meant_fits_in_its_place(self):
+        for dice, x, text, h, sizes, bids in self.books(6):
+            sizes, bids = self.without_some_changes(dice, sizes, bids)
+            at = fits(x, text, h, sizes, bids)[0]
+            page = self.answer(meant, x, text, h, sizes, bids)
+            if page[0] < 0:
+                self.assertEqual(page[0], -6 if at == -6 else -16)
+            else:
+                ahead = bids[:4 * sum(sizes[:at])]
+                given = (x, text, h[:3 * at], sizes[:at] + page[:1], ahead + page[1:])
+                self.assertEqual(fits(*given), [-6])
+                self.assertEqual(meant(*given), [-6])
+                self.assertNotEqual(sizes[at:at + 1] + bids[len(ahead):len(ahead) + 4 * sizes[at]], page)
+
+    def without_some_changes(self, dice, sizes, bids):
+        kept_sizes, kept = [], []
+        for size in sizes:
+            page = [bids[at:at + 4] for at in range(0, 4 * size, 4)]
+            bids = bids[4 * size:]
+            page = [four for four in page if four[0] != 4 or dice.randrange(2)]
+            kept_sizes.append(len(page))
+            kept.extend(page)
+        return kept_sizes, [number for four in kept for number in four]
+
+    def test_where_it_stands(self):
+        for dice, x, text, h, sizes, bids in self.books(7):
+            for count in range(len(sizes)):
+                ahead = sizes[:count + 1]
+                told = bids[:4 * sum(ahead)]
+                stood = self.answer(stands, x, text, h[:3 * count], ahead, told)
+                self.assertEqual(len(stood), 12)
+                end = told[-4:] if told[-4:-3] == [6] else [6, 0, 0, 0]
+                self.assertEqual(stood[:2], end[1:3])
+                self.assertLessEqual(stood[11], h[:3 * count:3].count(4))
+                if stood[0] != 0 or 5 in h[:3 * count:3]:
+                    self.assertEqual(stood[10], 0)
+
     def test_every_row_is_answered(self):
         dice = random.Random(4)
         for turn in range(2000):
@@ -87,10 +134,19 @@ class Holds(BookCase):
             bids = [dice.randrange(8) for place in range(dice.choice([0, 4, 8, 9]))]
             self.assertIn(self.answer(writes, 0, text, h)[0], [-33, -22, -16] + list(range(1000)))
             self.assertIn(self.answer(fits, 0, text, h, sizes, bids)[0], [-33, -22, -6] + list(range(5)))
+            page = self.answer(meant, 0, text, h, sizes, bids)
+            self.assertTrue(page[0] in (-33, -22, -16, -6) or len(page) == 1 + 4 * page[0])
+            stood = self.answer(stands, 0, text, h, sizes, bids)
+            self.assertTrue(stood in ([-33], [-22], [-34]) or (stood[0] in (0, 1, 2, 3) and len(stood) == 12))
 
     def test_calls_keep_nothing(self):
-        first = writes(5, wait(var(0)), [3, 0, 0])
-        for text in ([15], loop(num(1), nothing()), step(1, num(1), 1), fail(num(3))):
-            writes(7, text, [])
-            fits(7, text, [], [0], [])
-        self.assertEqual(writes(5, wait(var(0)), [3, 0, 0]), first)
+        text = then(wait(var(0)), listen(0, 1))
+        given = (5, text, [3, 0, 0], [1, 0], [1, 5, 0, 0])
+        before = [writes(*given[:3]), fits(*given), meant(*given), stands(*given)]
+        for other in ([15], loop(num(1), nothing()), step(1, num(1), 1), fail(num(3))):
+            writes(7, other, [])
+            for call in (fits, meant, stands):
+                call(7, other, [], [0], [])
+                call(7, other, [4, 0, 8], [1, 0], [0, 1, 1, 0])
+                call(7, other, [4, 0, 8], [1, 1], [0, 1, 1, 0, 0, 0, 0, 0])
+        self.assertEqual([writes(*given[:3]), fits(*given), meant(*given), stands(*given)], before)

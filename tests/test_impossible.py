@@ -1,10 +1,11 @@
-"""What couldn't happen when it did: -16 of writes, and of fits the page, though its bids would fit."""
+"""What couldn't happen when it did: -16 of writes, of fits the page though its bids would fit, and -16 of meant."""
 
 from bookagain.errand import writes
 from helper import BookCase, WHOLE
-from helper import num, var, nothing, step, wait, listen, fail, then, loop, beside, limit, joined, bids_of, sizes_of
+from helper import num, var, nothing, step, wait, listen, fail, then, loop, beside, limit, change
+from helper import joined, bids_of, sizes_of
 from helper import done, failed, never, fired, word, off
-from helper import ask, timer, call_off, stop, ended_well, ended_failed, ended_off
+from helper import ask, timer, call_off, stop, taken, ended_well, ended_failed, ended_off
 
 EACH = [done(0, 1), failed(0, 1), never(0), fired(0), word(0, 1), off()]
 
@@ -20,9 +21,13 @@ class Impossible(BookCase):
         told = self.answer(writes, 0, text, joined(happened))
         count = len(happened) + 1
         pages = self.pages_of(told[1:count + 1], told[count + 1:])
-        self.assert_fits(0, text, happenings, pages + [[]], count)
-        self.assert_fits(0, text, happenings + [word(0, 1)], pages + [[], []], count)
-        self.assert_fits(0, text, happenings, pages + [[ended_well()]], count)
+        self.assert_impossible(text, happenings, pages + [[]], count)
+        self.assert_impossible(text, happenings + [word(0, 1)], pages + [[], []], count)
+        self.assert_impossible(text, happenings, pages + [[ended_well()]], count)
+
+    def assert_impossible(self, text, happenings, pages, at):
+        self.assert_does_not_fit(0, text, happenings, pages, at)
+        self.assert_meant(0, text, happenings, pages, -16)
 
     def assert_could(self, text, happened, then_this):
         self.assertGreater(self.answer(writes, 0, text, joined(happened + [then_this]))[0], 0, then_this)
@@ -109,8 +114,22 @@ class Impossible(BookCase):
 
     def test_only_the_first_is_told(self):
         pages = [[ask(1, 1)], [ended_well()], [], []]
-        self.assert_fits(0, step(1, num(1), 1), [done(0, 1), done(0, 1), done(9, 9)], pages, 2)
-        self.assert_fits(0, step(1, num(1), 1), [failed(0, 1), done(0, 1), done(9, 9)], pages, 1)
+        self.assert_impossible(step(1, num(1), 1), [done(0, 1), done(0, 1), done(9, 9)], pages, 2)
+        self.assert_does_not_fit(0, step(1, num(1), 1), [failed(0, 1), done(0, 1), done(9, 9)], pages, 1)
+        self.assert_meant(0, step(1, num(1), 1), [failed(0, 1), done(0, 1), done(9, 9)], pages, [ended_failed(1)])
+
+    def test_by_the_pages_ahead_though_the_book_tells_other_bids(self):
+        pages = [[ask(1, 1)], [call_off(0), ask(2, 2)], []]
+        self.assert_impossible(step(1, num(1), 1), [never(0)], pages[:2], 1)
+        self.assert_does_not_fit(0, step(1, num(1), 1), [off(), done(2, 5)], pages, 1)
+        self.assert_meant(0, step(1, num(1), 1), [off(), done(2, 5)], pages, [call_off(0)])
+
+    def test_behind_a_change_that_was_not_taken(self):
+        text = change(1, step(1, num(1), 1), wait(num(4)))
+        for happening in (done(0, 5), failed(0, 5), never(0), fired(1), word(4, 5)):
+            self.assert_impossible(text, [happening], [[timer(4)], []], 1)
+        self.assert_impossible(text, [fired(1)], [[taken(1), ask(1, 1)], []], 1)
+        self.assert_fits(0, text, [fired(0)], [[timer(4)], [ended_well()]], -6)
 
     def test_what_happened_is_another(self):
         text = beside(step(1, num(1), 1), step(2, num(1), 2))

@@ -1,6 +1,6 @@
 """What is refused: -22 for no text and no book, -33 for a loop that doesn't wait, and which goes ahead."""
 
-from bookagain.errand import fits, writes
+from bookagain.errand import fits, meant, stands, writes
 from helper import BookCase, WHOLE
 from helper import num, var, plus, less_by, times, is_less, alike
 from helper import nothing, put, step, wait, listen, send, fail, then, choice, loop, beside, limit, catch, deal, change
@@ -14,6 +14,7 @@ ONE_OF_EACH = [
     catch(7, fail(num(1)), nothing()), deal(step(0, num(0), 0, 0)), change(7, nothing(), fail(num(1))),
 ]
 BAD_LOOP = loop(num(0), nothing())
+CALLS_WITH_BOOKS = (fits, meant, stands)
 
 
 def bushy(leaves):
@@ -31,14 +32,32 @@ def sums(levels):
     return [2] * levels + num(1) * (levels + 1)
 
 
-class Texts(BookCase):
+class RefusalCase(BookCase):
+    def assert_each(self, wanted, text, h, sizes, bids):
+        """All calls that are handed a book answer the refusal."""
+        for call in CALLS_WITH_BOOKS:
+            self.assertEqual(self.answer(call, 0, text, h, sizes, bids), [wanted], (call, text, h, sizes, bids))
+
+    def assert_none(self, refusal, text, h, sizes, bids):
+        for call in CALLS_WITH_BOOKS:
+            self.assertNotEqual(self.answer(call, 0, text, h, sizes, bids), [refusal], (call, text, h, sizes, bids))
+
+    def assert_parts_at(self, at, text, h, sizes, bids, page):
+        """A book in its form, that doesn't fit from page `at` on; there `page` is meant."""
+        wanted = [page] if isinstance(page, int) else [len(page)] + joined(page)
+        self.assertEqual(self.answer(fits, 0, text, h, sizes, bids), [at])
+        self.assertEqual(self.answer(meant, 0, text, h, sizes, bids), wanted)
+        self.assertEqual(self.answer(stands, 0, text, h, sizes, bids), [-34])
+
+
+class Texts(RefusalCase):
     def assert_no_text(self, text):
         self.assert_refused(0, text, [], -22)
-        self.assertEqual(self.answer(fits, 0, text, [], [0], []), [-22], text)
+        self.assert_each(-22, text, [], [0], [])
 
     def assert_text(self, text):
         self.assertGreater(self.answer(writes, 0, text, [])[0], 0, text)
-        self.assertNotEqual(self.answer(fits, 0, text, [], [0], []), [-22], text)
+        self.assert_none(-22, text, [], [0], [])
 
     def test_too_short(self):
         for text in ONE_OF_EACH:
@@ -110,11 +129,11 @@ class Texts(BookCase):
             self.assert_no_text(change(n, nothing(), nothing()))
 
 
-class Books(BookCase):
+class Books(RefusalCase):
     TEXT = loop(num(1), listen(0, 1))
 
     def assert_no_book(self, h, sizes, bids):
-        self.assertEqual(self.answer(fits, 0, self.TEXT, h, sizes, bids), [-22], (h, sizes, bids))
+        self.assert_each(-22, self.TEXT, h, sizes, bids)
 
     def assert_no_happenings(self, h):
         self.assert_refused(0, self.TEXT, [h], -22)
@@ -134,12 +153,14 @@ class Books(BookCase):
         most = WHOLE - 1
         for h in ([0, most, most], [1, most, most], [2, most, 0], [3, most, 0], [4, most, most], [4, 4, 0]):
             self.assert_refused(0, self.TEXT, [h], -16)
-            self.assertEqual(self.answer(fits, 0, self.TEXT, h, [0, 0], []), [1])
+            self.assert_parts_at(1, self.TEXT, h, [0, 0], [], -16)
 
     def test_most_happenings(self):
         sixty = word(0, 1) * 60
         self.assertEqual(self.answer(writes, 0, self.TEXT, sixty), [61] + [0] * 61)
         self.assertEqual(self.answer(fits, 0, self.TEXT, sixty, [0] * 61, []), [-6])
+        self.assertEqual(self.answer(meant, 0, self.TEXT, sixty, [0] * 61, []), [-6])
+        self.assertEqual(self.answer(stands, 0, self.TEXT, sixty, [0] * 61, []), [0, 0, 0, 1] + [0] * 6 + [1, 0])
         self.assert_no_happenings(sixty + word(0, 1))
         self.assert_no_happenings(word(0, 1) * 66)
 
@@ -167,24 +188,22 @@ class Books(BookCase):
 
     def test_any_numbers_behind_a_known_kind(self):
         for kind in range(7):
-            given = (0, self.TEXT, [], [1], [kind] + [WHOLE - 1] * 3)
-            self.assertEqual(self.answer(fits, *given), [0])
+            self.assert_parts_at(0, self.TEXT, [], [1], [kind] + [WHOLE - 1] * 3, [])
 
     def test_longest_book(self):
-        given = (0, self.TEXT, word(0, 1) * 60, [200] + [0] * 60, timer(1) * 200)
-        self.assertEqual(self.answer(fits, *given), [0])
+        self.assert_parts_at(0, self.TEXT, word(0, 1) * 60, [200] + [0] * 60, timer(1) * 200, [])
 
 
-class Loops(BookCase):
+class Loops(RefusalCase):
     def assert_waits(self, inner):
         for text in (loop(num(0), inner), loop(num(1), inner)):
             self.assertNotEqual(self.answer(writes, 0, text, []), [-33], text)
-            self.assertNotEqual(self.answer(fits, 0, text, [], [0], []), [-33], text)
+            self.assert_none(-33, text, [], [0], [])
 
     def assert_does_not_wait(self, inner):
         for text in (loop(num(0), inner), loop(num(1), inner), loop(num(0), then(put(1, num(1)), inner))):
             self.assert_refused(0, text, [], -33)
-            self.assertEqual(self.answer(fits, 0, text, [], [0], []), [-33], text)
+            self.assert_each(-33, text, [], [0], [])
 
     def test_0_to_6(self):
         for inner in (nothing(), put(1, num(1)), send(num(1), 1, num(1))):
@@ -262,23 +281,40 @@ class Loops(BookCase):
                      limit(num(1), nothing(), BAD_LOOP), catch(1, BAD_LOOP, nothing()), catch(1, nothing(), BAD_LOOP),
                      deal(BAD_LOOP), change(1, BAD_LOOP, nothing()), change(1, nothing(), BAD_LOOP)):
             self.assert_refused(0, text, [], -33)
-            self.assertEqual(self.answer(fits, 0, text, [], [0], []), [-33], text)
+            self.assert_each(-33, text, [], [0], [])
 
 
-class Order(BookCase):
+class Order(RefusalCase):
     def test_malformed_ahead_of_a_loop(self):
         self.assert_refused(0, BAD_LOOP + [0], [], -22)
         self.assert_refused(0, then(BAD_LOOP, [15]), [], -22)
         self.assert_refused(0, BAD_LOOP, [[6, 0, 0]], -22)
         self.assert_refused(0, BAD_LOOP, [word(0, 1)] * 61, -22)
         for h, sizes, bids in (([6, 0, 0], [0, 0], []), ([], [0, 0], []), ([], [1], []), ([], [1], [7, 0, 0, 0])):
-            self.assertEqual(self.answer(fits, 0, BAD_LOOP, h, sizes, bids), [-22])
+            self.assert_each(-22, BAD_LOOP, h, sizes, bids)
+        for text in (BAD_LOOP + [0], then(BAD_LOOP, [15])):
+            self.assert_each(-22, text, [], [1], ended_well())
 
     def test_a_loop_ahead_of_what_could_not_happen(self):
         self.assert_refused(0, BAD_LOOP, [[0, 5, 0]], -33)
-        self.assertEqual(self.answer(fits, 0, BAD_LOOP, [0, 5, 0], [1, 0], ended_well()), [-33])
+        self.assert_each(-33, BAD_LOOP, [0, 5, 0], [1, 0], ended_well())
+
+    def test_a_loop_ahead_of_whether_the_book_fits(self):
+        self.assert_each(-33, BAD_LOOP, [], [1], ended_well())
+        self.assert_each(-33, BAD_LOOP, [], [0], [])
+        self.assert_each(-33, then(wait(num(1)), BAD_LOOP), [], [1], timer(1))
+        self.assert_each(-33, then(wait(num(1)), BAD_LOOP), [], [1], timer(2))
+
+    def test_malformed_ahead_of_whether_the_book_fits(self):
+        self.assert_each(-22, [0, 0], [], [1], ended_well())
+        self.assert_each(-22, [0, 0], [], [0], [])
+        self.assert_each(-22, nothing(), [6, 0, 0], [1, 0], ended_well())
+        self.assert_each(-22, nothing(), [], [2], ended_well())
+        self.assert_each(-22, wait(num(1)), [6, 0, 0], [0, 0], [])
 
     def test_malformed_ahead_of_what_could_not_happen(self):
         self.assert_refused(0, nothing(), [[0, 5, 0], [6, 0, 0]], -22)
         self.assert_refused(0, [0, 0], [[0, 5, 0]], -22)
-        self.assertEqual(self.answer(fits, 0, wait(num(1)), joined([[0, 5, 0], [6, 0, 0]]), [1, 0, 0], ask(0, 0)), [-22])
+        self.assert_each(-22, wait(num(1)), joined([[0, 5, 0], [6, 0, 0]]), [1, 0, 0], ask(0, 0))
+        self.assert_each(-22, wait(num(1)), [0, 5, 0], [1, 1], timer(1))
+        self.assert_each(-22, [0, 0], [0, 5, 0], [1, 0], ended_well())
