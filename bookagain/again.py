@@ -1,10 +1,10 @@
-"""An errand gone again by its book: how far the book fits, what the text makes there, and where that leaves it."""
+"""An errand gone again by its book: how far the book fits, what the text makes there, and what it makes next."""
 
 from bookagain.at_once import check_loops
-from bookagain.book import read_book
+from bookagain.book import read_book, read_one_happening
 from bookagain.going import Errand
 from bookagain.reading import read_text
-from bookagain.refusals import CouldNotHappen
+from bookagain.refusals import DoesNotFit
 
 
 class Again:
@@ -37,7 +37,14 @@ class Again:
 
     # What the text makes anew, where the first page is that doesn't fit.
     def meant_page(self):
-        page = self.errand_behind_fitting().go_page(self.book[self.fitting][0], None)
-        if page is None:
-            raise CouldNotHappen()
-        return page
+        return self.errand_behind_fitting().write_page(self.book[self.fitting][0])
+
+    def errand_at_end(self):
+        if not self.all_fits():
+            raise DoesNotFit()
+        return self.errand_behind_fitting()
+
+    # Looked at in this order: what happens next may be told wrongly, and only then the book not fit.
+    def next_page(self, e):
+        three = read_one_happening(e)
+        return self.errand_at_end().write_page(three)

@@ -1,4 +1,4 @@
-"""The form of a book: what happened, and its pages of bids."""
+"""The form of a book: what happened, and its pages of bids; and that of what happens next."""
 
 from bookagain.codes import BID_END, HAS_CALLED_OFF, HAS_FIRED, HAS_NEVER_DONE
 from bookagain.refusals import Malformed
@@ -27,6 +27,13 @@ def read_happenings(h):
     if not all([is_happening(three) for three in happenings]):
         raise Malformed()
     return happenings
+
+
+def read_one_happening(e):
+    happenings = read_happenings(e)
+    if len(happenings) != 1:
+        raise Malformed()
+    return happenings[0]
 
 
 # Page by page: what happened (None at the first, where it begins), and the bids by that.

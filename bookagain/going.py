@@ -2,14 +2,14 @@
 
 from bookagain.codes import ASSIGN, BID_ASK, BID_CALL_OFF, BID_CHANGE, BID_END, BID_SEND, BID_STOP, BID_TIMER
 from bookagain.codes import CHANGE, CHOICE, DEAL, FAIL, FAILED, GOES_ON, NOTHING, SEND, WELL
-from bookagain.codes import HAS_CALLED_OFF, HAS_FIRED, HAS_NEVER_DONE, HAS_WORD
+from bookagain.codes import HAS_CALLED_OFF, HAS_FIRED, HAS_WORD
+from bookagain.outstanding import Outstanding
+from bookagain.refusals import CouldNotHappen
 from bookagain.strands import Deal, strand_of
 from bookagain.worth import worth_of
 
-KINDS_OF_WORDS = 4
 
-
-class Errand:
+class Errand(Outstanding):
     def __init__(self, statement, x):
         self.variables = [x, 0, 0, 0, 0, 0, 0, 0]
         self.bids = []
@@ -31,32 +31,30 @@ class Errand:
         self.told_page = told_page
         if three is None:
             self.go_on(self.whole, self.whole.begin(self))
-        elif self.could_happen(three):
+        elif self.may_come(three):
             self.happen(three)
         else:
             return None
         self.hear_words()
         return self.bids[self.page_start:]
 
+    # A page that no book tells.
+    def write_page(self, three):
+        page = self.go_page(three, None)
+        if page is None:
+            raise CouldNotHappen()
+        return page
+
     # Twelve numbers: how it ended and with what, the variables, how many listen, how many words aren't heard.
     def told_standing(self):
         end = (GOES_ON, 0) if self.final_end is None else self.final_end
         return list(end) + self.variables + [len(self.whole.listeners()), len(self.words)]
 
-    def could_happen(self, three):
-        kind = three[0]
-        number = three[1]
-        if self.final_end is not None:
-            return False
-        if kind == HAS_CALLED_OFF:
-            return not self.whole.called
-        if kind == HAS_WORD:
-            return number < KINDS_OF_WORDS
-        if kind == HAS_FIRED:
-            return number in self.timers
-        if kind == HAS_NEVER_DONE:
-            return number in self.asks and number in self.called_off_asks
-        return number in self.asks
+    def is_over(self):
+        return self.final_end is not None
+
+    def was_called_off(self):
+        return self.whole.called
 
     def happen(self, three):
         kind = three[0]

@@ -2,7 +2,7 @@
 
 import unittest
 
-from bookagain.errand import fits, meant, stands, writes
+from bookagain.errand import fits, meant, next_of, sound, stands, writes
 
 WHOLE = 2 ** 32
 GOES_ON = (0, 0)
@@ -241,16 +241,27 @@ class BookCase(unittest.TestCase):
         wanted = list(end) + held + [0] * (8 - len(held)) + [listening, unheard]
         self.assertEqual(self.answer(stands, *given), wanted, given)
 
+    def assert_next(self, x, text, happenings, pages, e, wanted):
+        """`wanted` is a page, or the number alone."""
+        given = (x, text, joined(happenings), sizes_of(pages), bids_of(pages), e)
+        told_page = [wanted] if isinstance(wanted, int) else [len(wanted)] + joined(wanted)
+        self.assertEqual(self.answer(next_of, *given), told_page, given)
+
+    def assert_sound(self, happenings, pages, wanted):
+        given = (joined(happenings), sizes_of(pages), bids_of(pages))
+        self.assertEqual(self.answer(sound, *given), [wanted], given)
+
     def assert_does_not_fit(self, x, text, happenings, pages, at):
-        """It doesn't fit from page `at` on, as fits and stands tell it."""
+        """It doesn't fit from page `at` on, as fits, stands and next_of tell it."""
         self.assert_fits(x, text, happenings, pages, at)
         given = (x, text, joined(happenings), sizes_of(pages), bids_of(pages))
         self.assertEqual(self.answer(stands, *given), [-34], given)
+        self.assert_next(x, text, happenings, pages, word(0, 1), -34)
 
     def check(self, x, text, first_page, *later):
         """`later` are pairs: what happened, and the page by it. What is written is just that; it fits,
-        and so does all that's ahead of any page; changed at any page it ceases to fit there, where that
-        page was meant."""
+        and so does all that's ahead of any page, which is sound and has that page next; changed at any
+        page it ceases to fit there, where that page was meant."""
         happenings = [pair[0] for pair in later]
         pages = [first_page] + [pair[1] for pair in later]
         self.assert_writes(x, text, happenings, pages)
@@ -258,6 +269,9 @@ class BookCase(unittest.TestCase):
         for at in range(len(pages)):
             self.assert_fits(x, text, happenings[:at], pages[:at + 1], -6)
             self.assert_meant(x, text, happenings[:at], pages[:at + 1], -6)
+            self.assert_sound(happenings[:at], pages[:at + 1], 1)
+            if at > 0:
+                self.assert_next(x, text, happenings[:at - 1], pages[:at], happenings[at - 1], pages[at])
             for changed in changed_pages(pages, at):
                 self.assert_does_not_fit(x, text, happenings, changed, at)
                 self.assert_fits(x, text, happenings[:at], changed[:at + 1], at)

@@ -2,7 +2,7 @@
 
 import random
 
-from bookagain.errand import fits, meant, stands, writes
+from bookagain.errand import fits, meant, next_of, sound, stands, writes
 from helper import BookCase, WHOLE
 from helper import num, var, plus, nothing, put, step, wait, listen, send, fail, then, choice, loop, beside
 from helper import limit, catch, deal, change
@@ -87,6 +87,14 @@ class Holds(BookCase):
                 given = (x, text, h[:3 * count], sizes[:count] + [1], longer)
                 self.assertEqual(self.answer(meant, *given), [sizes[count]] + page)
                 self.assertEqual(self.answer(stands, *given), [-34])
+                if count > 0:
+                    happening = h[3 * count - 3:3 * count]
+                    given = (x, text, h[:3 * count - 3], sizes[:count], bids[:4 * ahead], happening)
+                    self.assertEqual(self.answer(next_of, *given), [sizes[count]] + page)
+
+    def test_what_is_written_is_sound(self):
+        for dice, x, text, h, sizes, bids in self.books(8):
+            self.assertEqual(self.answer(sound, h, sizes, bids), [1])
 
     def test_what_is_meant_fits_in_its_place(self):
         for dice, x, text, h, sizes, bids in self.books(6):
@@ -132,21 +140,27 @@ class Holds(BookCase):
             h = [dice.randrange(7) for place in range(dice.choice([0, 3, 6, 7]))]
             sizes = [dice.randrange(3) for place in range(dice.randrange(5))]
             bids = [dice.randrange(8) for place in range(dice.choice([0, 4, 8, 9]))]
+            e = [dice.randrange(7) for place in range(dice.choice([2, 3, 3, 3]))]
             self.assertIn(self.answer(writes, 0, text, h)[0], [-33, -22, -16] + list(range(1000)))
             self.assertIn(self.answer(fits, 0, text, h, sizes, bids)[0], [-33, -22, -6] + list(range(5)))
             page = self.answer(meant, 0, text, h, sizes, bids)
             self.assertTrue(page[0] in (-33, -22, -16, -6) or len(page) == 1 + 4 * page[0])
+            page = self.answer(next_of, 0, text, h, sizes, bids, e)
+            self.assertTrue(page[0] in (-33, -22, -16, -34) or len(page) == 1 + 4 * page[0])
+            self.assertIn(self.answer(sound, h, sizes, bids), [[-22], [0], [1]])
             stood = self.answer(stands, 0, text, h, sizes, bids)
             self.assertTrue(stood in ([-33], [-22], [-34]) or (stood[0] in (0, 1, 2, 3) and len(stood) == 12))
 
     def test_calls_keep_nothing(self):
         text = then(wait(var(0)), listen(0, 1))
         given = (5, text, [3, 0, 0], [1, 0], [1, 5, 0, 0])
-        before = [writes(*given[:3]), fits(*given), meant(*given), stands(*given)]
+        before = self.answers_of_all(given)
         for other in ([15], loop(num(1), nothing()), step(1, num(1), 1), fail(num(3))):
-            writes(7, other, [])
-            for call in (fits, meant, stands):
-                call(7, other, [], [0], [])
-                call(7, other, [4, 0, 8], [1, 0], [0, 1, 1, 0])
-                call(7, other, [4, 0, 8], [1, 1], [0, 1, 1, 0, 0, 0, 0, 0])
-        self.assertEqual([writes(*given[:3]), fits(*given), meant(*given), stands(*given)], before)
+            self.answers_of_all((7, other, [], [0], []))
+            self.answers_of_all((7, other, [4, 0, 8], [1, 0], [0, 1, 1, 0]))
+            self.answers_of_all((7, other, [4, 0, 8], [1, 1], [0, 1, 1, 0, 0, 0, 0, 0]))
+        self.assertEqual(self.answers_of_all(given), before)
+
+    def answers_of_all(self, given):
+        with_text = [call(*given) for call in (fits, meant, stands)]
+        return with_text + [writes(*given[:3]), next_of(*given, [4, 0, 8]), sound(*given[2:])]

@@ -1,6 +1,7 @@
-"""What couldn't happen when it did: -16 of writes, of fits the page though its bids would fit, and -16 of meant."""
+"""What couldn't happen when it did: -16 of writes, of fits the page though its bids would fit, -16 of meant; -16 of
+next_of before it did; and that the book isn't sound, where the pages ahead of it are as told."""
 
-from bookagain.errand import writes
+from bookagain.errand import next_of, writes
 from helper import BookCase, WHOLE
 from helper import num, var, nothing, step, wait, listen, fail, then, loop, beside, limit, change
 from helper import joined, bids_of, sizes_of
@@ -24,6 +25,10 @@ class Impossible(BookCase):
         self.assert_impossible(text, happenings, pages + [[]], count)
         self.assert_impossible(text, happenings + [word(0, 1)], pages + [[], []], count)
         self.assert_impossible(text, happenings, pages + [[ended_well()]], count)
+        self.assert_next(0, text, happened, pages, then_this, -16)
+        self.assert_sound(happened, pages, 1)
+        self.assert_sound(happenings, pages + [[]], 0)
+        self.assert_sound(happenings + [word(0, 1)], pages + [[], []], 0)
 
     def assert_impossible(self, text, happenings, pages, at):
         self.assert_does_not_fit(0, text, happenings, pages, at)
@@ -31,6 +36,11 @@ class Impossible(BookCase):
 
     def assert_could(self, text, happened, then_this):
         self.assertGreater(self.answer(writes, 0, text, joined(happened + [then_this]))[0], 0, then_this)
+        told = self.answer(writes, 0, text, joined(happened))
+        count = len(happened) + 1
+        given = (0, text, joined(happened), told[1:count + 1], told[count + 1:], then_this)
+        self.assertGreaterEqual(self.answer(next_of, *given)[0], 0, then_this)
+        self.assert_sound(happened + [then_this], self.pages_of(told[1:count + 1], told[count + 1:]) + [[]], 1)
 
     def pages_of(self, sizes, numbers):
         pages = []

@@ -22,8 +22,8 @@ copyright credits delattr dir eval exec exit gc getattr globals hasattr help id 
 setattr super vars sys hash next map iter filter format print""".split()
 NO_WORDS = """type typing typing_extensions enum Enum IntEnum StrEnum Flag IntFlag Generic Protocol ABC ABCMeta namedtuple
 NamedTuple TypedDict TYPE_CHECKING abstractmethod""".split()
-INTERFACE = ["writes", "fits", "meant", "stands"]
-TAKEN_BY_INTERFACE = INTERFACE + ["next_of", "sound", "open_of"]
+INTERFACE = ["writes", "fits", "meant", "stands", "next_of", "sound"]
+TAKEN_BY_INTERFACE = INTERFACE + ["open_of"]
 
 
 class Language(unittest.TestCase):

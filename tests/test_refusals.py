@@ -1,6 +1,6 @@
-"""What is refused: -22 for no text and no book, -33 for a loop that doesn't wait, and which goes ahead."""
+"""What is refused: -22 for no text, no book and no happening, -33 for a loop that doesn't wait, and which goes ahead."""
 
-from bookagain.errand import fits, meant, stands, writes
+from bookagain.errand import fits, meant, next_of, sound, stands, writes
 from helper import BookCase, WHOLE
 from helper import num, var, plus, less_by, times, is_less, alike
 from helper import nothing, put, step, wait, listen, send, fail, then, choice, loop, beside, limit, catch, deal, change
@@ -15,6 +15,10 @@ ONE_OF_EACH = [
 ]
 BAD_LOOP = loop(num(0), nothing())
 CALLS_WITH_BOOKS = (fits, meant, stands)
+CALLS_WITH_BOOKS_ALONE = (sound,)
+NEXT = [word(0, 1), [0, 5, 0], [5, 0, 0]]
+NO_NEXT = [[], [4], [4, 0], [4, 0, 1, 4], [6, 0, 0], [7, 0, 0], [WHOLE - 1, 0, 0], [2, 0, 1], [3, 0, 1], [5, 1, 0], [5, 0, 1],
+           [5, 1, 1], [2, 0, WHOLE - 1], [3, 0, WHOLE - 1], [5, WHOLE - 1, 0]]
 
 
 def bushy(leaves):
@@ -34,13 +38,17 @@ def sums(levels):
 
 class RefusalCase(BookCase):
     def assert_each(self, wanted, text, h, sizes, bids):
-        """All calls that are handed a book answer the refusal."""
+        """All calls that are handed a text and a book answer the refusal, whatever is to happen next."""
         for call in CALLS_WITH_BOOKS:
             self.assertEqual(self.answer(call, 0, text, h, sizes, bids), [wanted], (call, text, h, sizes, bids))
+        for e in NEXT[:1] + NO_NEXT[:1] + NO_NEXT[4:5]:
+            self.assertEqual(self.answer(next_of, 0, text, h, sizes, bids, e), [wanted], (text, h, sizes, bids, e))
 
     def assert_none(self, refusal, text, h, sizes, bids):
         for call in CALLS_WITH_BOOKS:
             self.assertNotEqual(self.answer(call, 0, text, h, sizes, bids), [refusal], (call, text, h, sizes, bids))
+        for e in NEXT:
+            self.assertNotEqual(self.answer(next_of, 0, text, h, sizes, bids, e), [refusal], (text, h, sizes, bids, e))
 
     def assert_parts_at(self, at, text, h, sizes, bids, page):
         """A book in its form, that doesn't fit from page `at` on; there `page` is meant."""
@@ -48,6 +56,10 @@ class RefusalCase(BookCase):
         self.assertEqual(self.answer(fits, 0, text, h, sizes, bids), [at])
         self.assertEqual(self.answer(meant, 0, text, h, sizes, bids), wanted)
         self.assertEqual(self.answer(stands, 0, text, h, sizes, bids), [-34])
+        for e in NEXT:
+            self.assertEqual(self.answer(next_of, 0, text, h, sizes, bids, e), [-34])
+        for call in CALLS_WITH_BOOKS_ALONE:
+            self.assertGreaterEqual(self.answer(call, h, sizes, bids)[0], 0)
 
 
 class Texts(RefusalCase):
@@ -134,6 +146,8 @@ class Books(RefusalCase):
 
     def assert_no_book(self, h, sizes, bids):
         self.assert_each(-22, self.TEXT, h, sizes, bids)
+        for call in CALLS_WITH_BOOKS_ALONE:
+            self.assertEqual(self.answer(call, h, sizes, bids), [-22], (call, h, sizes, bids))
 
     def assert_no_happenings(self, h):
         self.assert_refused(0, self.TEXT, [h], -22)
@@ -284,6 +298,45 @@ class Loops(RefusalCase):
             self.assert_each(-33, text, [], [0], [])
 
 
+class Nexts(RefusalCase):
+    TEXT = loop(num(1), listen(0, 1))
+
+    def assert_no_next(self, e):
+        self.assertEqual(self.answer(next_of, 0, self.TEXT, [], [0], [], e), [-22], e)
+
+    def test_not_one_three_as_told(self):
+        for e in NO_NEXT:
+            self.assert_no_next(e)
+
+    def test_no_numbers_one_two_four(self):
+        for happening in ([0, 0, 0], [1, 0, 0], [2, 0, 0], [3, 0, 0], [4, 0, 0], [5, 0, 0]):
+            for length in range(3):
+                self.assert_no_next(happening[:length])
+            self.assert_no_next(happening + [0])
+            self.assertNotEqual(self.answer(next_of, 0, self.TEXT, [], [0], [], happening), [-22])
+
+    def test_each_kind_with_what_its_numbers_may_not_be(self):
+        most = WHOLE - 1
+        for kind in (2, 3):
+            for x in (1, 2, most):
+                for i in (0, 1, most):
+                    self.assert_no_next([kind, i, x])
+        for i, x in ((1, 0), (0, 1), (1, 1), (most, 0), (0, most), (most, most)):
+            self.assert_no_next([5, i, x])
+        for kind in (6, 7, 8, most):
+            self.assert_no_next([kind, 0, 0])
+
+    def test_any_i_and_x_and_c(self):
+        most = WHOLE - 1
+        for e in ([0, most, most], [1, most, most], [2, most, 0], [3, most, 0], [4, most, most], [4, 4, 0]):
+            self.assertEqual(self.answer(next_of, 0, self.TEXT, [], [0], [], e), [-16])
+
+    def test_behind_sixty_happenings(self):
+        sixty = word(0, 1) * 60
+        self.assertEqual(self.answer(next_of, 0, self.TEXT, sixty, [0] * 61, [], word(0, 1)), [0])
+        self.assertEqual(self.answer(next_of, 0, self.TEXT, sixty, [0] * 61, [], [6, 0, 0]), [-22])
+
+
 class Order(RefusalCase):
     def test_malformed_ahead_of_a_loop(self):
         self.assert_refused(0, BAD_LOOP + [0], [], -22)
@@ -318,3 +371,37 @@ class Order(RefusalCase):
         self.assert_each(-22, wait(num(1)), joined([[0, 5, 0], [6, 0, 0]]), [1, 0, 0], ask(0, 0))
         self.assert_each(-22, wait(num(1)), [0, 5, 0], [1, 1], timer(1))
         self.assert_each(-22, [0, 0], [0, 5, 0], [1, 0], ended_well())
+
+    def test_a_loop_ahead_of_what_is_no_next(self):
+        for e in NO_NEXT:
+            self.assertEqual(self.answer(next_of, 0, BAD_LOOP, [], [0], [], e), [-33], e)
+            self.assertEqual(self.answer(next_of, 0, BAD_LOOP, [], [1], ended_well(), e), [-33], e)
+
+    def test_a_loop_ahead_of_what_could_not_happen_now(self):
+        for text in (BAD_LOOP, then(wait(num(1)), BAD_LOOP)):
+            self.assertEqual(self.answer(next_of, 0, text, [], [1], timer(1), [0, 5, 0]), [-33])
+
+    def test_no_book_ahead_of_a_loop_and_of_what_is_next(self):
+        for e in NEXT + NO_NEXT:
+            self.assertEqual(self.answer(next_of, 0, BAD_LOOP, [], [1], [], e), [-22], e)
+            self.assertEqual(self.answer(next_of, 0, nothing(), [], [2], ended_well(), e), [-22], e)
+            self.assertEqual(self.answer(next_of, 0, [0, 0], [], [1], ended_well(), e), [-22], e)
+
+    def test_no_next_ahead_of_whether_the_book_fits(self):
+        for e in NO_NEXT:
+            self.assertEqual(self.answer(next_of, 0, wait(num(1)), [], [1], timer(2), e), [-22], e)
+            self.assertEqual(self.answer(next_of, 0, wait(num(1)), [0, 5, 0], [1, 0], timer(1), e), [-22], e)
+
+    def test_no_next_ahead_of_what_could_not_happen_now(self):
+        for e in ([2, 5, 1], [3, 5, 1], [6, 5, 0], [4, 9, 1, 4], [0, 5]):
+            self.assertEqual(self.answer(next_of, 0, wait(num(1)), [], [1], timer(1), e), [-22], e)
+        for e in ([5, 0, 1], [2, 0, 1], [3, 0, 1], [4, 0]):
+            self.assertEqual(self.answer(next_of, 0, nothing(), [], [1], ended_well(), e), [-22], e)
+
+    def test_whether_the_book_fits_ahead_of_what_could_not_happen_now(self):
+        for e in ([0, 5, 0], [1, 5, 0], [2, 0, 0], [3, 5, 0], [4, 9, 0]):
+            self.assertEqual(self.answer(next_of, 0, wait(num(1)), [], [1], timer(1), e), [-16], e)
+            self.assertEqual(self.answer(next_of, 0, wait(num(1)), [], [1], timer(2), e), [-34], e)
+            self.assertEqual(self.answer(next_of, 0, wait(num(1)), [0, 5, 0], [1, 0], timer(1), e), [-34], e)
+        self.assertEqual(self.answer(next_of, 0, nothing(), [], [0], [], [5, 0, 0]), [-34])
+        self.assertEqual(self.answer(next_of, 0, nothing(), [], [1], ended_well(), [5, 0, 0]), [-16])
