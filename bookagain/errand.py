@@ -1,7 +1,7 @@
 """The calls: what a text writes, how a book fits it and where that leaves the errand, and what the book tells alone."""
 
 from bookagain.again import Again
-from bookagain.alone import is_sound
+from bookagain.alone import Alone, is_sound
 from bookagain.at_once import check_loops
 from bookagain.book import read_book, read_happenings
 from bookagain.going import Errand
@@ -31,6 +31,10 @@ def next_of(x, text, h, sizes, bids, e):
 
 def sound(h, sizes, bids):
     return told_or_refused(lambda: [1 if is_sound(read_book(h, sizes, bids)) else 0])
+
+
+def open_of(h, sizes, bids):
+    return told_or_refused(lambda: told_outstanding(Alone(read_book(h, sizes, bids))))
 
 
 def told_or_refused(make_answer):
@@ -74,6 +78,14 @@ def told_book(pages):
 
 def told_page(page):
     return [len(page)] + numbers_of(page)
+
+
+def told_outstanding(alone):
+    told = []
+    for numbers in (alone.asks, alone.called_off_asks, alone.timers):
+        told.append(len(numbers))
+        told.extend(numbers)
+    return told
 
 
 def numbers_of(page):

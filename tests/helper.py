@@ -2,7 +2,7 @@
 
 import unittest
 
-from bookagain.errand import fits, meant, next_of, sound, stands, writes
+from bookagain.errand import fits, meant, next_of, open_of, sound, stands, writes
 
 WHOLE = 2 ** 32
 GOES_ON = (0, 0)
@@ -178,6 +178,19 @@ def bids_of(pages):
     return joined(joined(pages))
 
 
+def threes_of(h):
+    return [h[at:at + 3] for at in range(0, len(h), 3)]
+
+
+def rows_of(told):
+    """The rows that are told one behind the other, each as how many and then these."""
+    rows = []
+    while told:
+        rows.append(told[1:told[0] + 1])
+        told = told[told[0] + 1:]
+    return rows
+
+
 def with_page(pages, at, page):
     return pages[:at] + [page] + pages[at + 1:]
 
@@ -251,6 +264,26 @@ class BookCase(unittest.TestCase):
         given = (joined(happenings), sizes_of(pages), bids_of(pages))
         self.assertEqual(self.answer(sound, *given), [wanted], given)
 
+    def assert_open(self, happenings, pages, asks, called_off, timers):
+        given = (joined(happenings), sizes_of(pages), bids_of(pages))
+        wanted = [len(asks)] + asks + [len(called_off)] + called_off + [len(timers)] + timers
+        self.assertEqual(self.answer(open_of, *given), wanted, given)
+
+    def assert_alone_tells(self, x, text, h, sizes, bids):
+        """Of a book that fits, the book alone tells what's open, what may come, whether it's over."""
+        asks, called_off, timers = rows_of(open_of(h, sizes, bids))
+        over = stands(x, text, h, sizes, bids)[0] != 0
+        self.assertEqual(6 in bids[::4], over)
+        self.assertFalse(over and (asks or timers))
+        may_come = {4: list(range(4)), 5: [0] if [5, 0, 0] not in threes_of(h) else []}
+        may_come.update({0: asks, 1: asks, 2: called_off, 3: timers})
+        numbers = list(range(len(bids) // 4 + 2)) + [4]
+        for e in [[kind, i, 0] for kind in range(5) for i in numbers] + [[5, 0, 0]]:
+            may = not over and e[1] in may_come[e[0]]
+            self.assertEqual(next_of(x, text, h, sizes, bids, e) != [-16], may, (x, text, h, sizes, bids, e))
+            if len(h) < 180:
+                self.assertEqual(sound(h + e, sizes + [0], bids), [1 if may else 0], (h, sizes, bids, e))
+
     def assert_does_not_fit(self, x, text, happenings, pages, at):
         """It doesn't fit from page `at` on, as fits, stands and next_of tell it."""
         self.assert_fits(x, text, happenings, pages, at)
@@ -261,11 +294,14 @@ class BookCase(unittest.TestCase):
     def check(self, x, text, first_page, *later):
         """`later` are pairs: what happened, and the page by it. What is written is just that; it fits,
         and so does all that's ahead of any page, which is sound and has that page next; changed at any
-        page it ceases to fit there, where that page was meant."""
+        page it ceases to fit there, where that page was meant. What comes behind its last pages, the book
+        alone tells."""
         happenings = [pair[0] for pair in later]
         pages = [first_page] + [pair[1] for pair in later]
         self.assert_writes(x, text, happenings, pages)
         self.assert_fits(x, text, happenings, pages, -6)
+        for count in range(1, len(pages) + 1)[-3:]:
+            self.assert_alone_tells(x, text, joined(happenings[:count - 1]), sizes_of(pages[:count]), bids_of(pages[:count]))
         for at in range(len(pages)):
             self.assert_fits(x, text, happenings[:at], pages[:at + 1], -6)
             self.assert_meant(x, text, happenings[:at], pages[:at + 1], -6)

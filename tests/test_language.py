@@ -22,8 +22,7 @@ copyright credits delattr dir eval exec exit gc getattr globals hasattr help id 
 setattr super vars sys hash next map iter filter format print""".split()
 NO_WORDS = """type typing typing_extensions enum Enum IntEnum StrEnum Flag IntFlag Generic Protocol ABC ABCMeta namedtuple
 NamedTuple TypedDict TYPE_CHECKING abstractmethod""".split()
-INTERFACE = ["writes", "fits", "meant", "stands", "next_of", "sound"]
-TAKEN_BY_INTERFACE = INTERFACE + ["open_of"]
+INTERFACE = ["writes", "fits", "meant", "stands", "next_of", "sound", "open_of"]
 
 
 class Language(unittest.TestCase):
@@ -135,7 +134,7 @@ class Language(unittest.TestCase):
                 for word in INTERFACE:
                     self.assertIn(word, self.top_names(name))
             else:
-                self.assertFalse(set(TAKEN_BY_INTERFACE) & set(self.top_names(name)), name)
+                self.assertFalse(set(INTERFACE) & set(self.top_names(name)), name)
 
     def test_names(self):
         for name, node in self.nodes(ast.Name, ast.arg, ast.FunctionDef, ast.ClassDef, ast.Attribute):

@@ -1,6 +1,6 @@
 """What is refused: -22 for no text, no book and no happening, -33 for a loop that doesn't wait, and which goes ahead."""
 
-from bookagain.errand import fits, meant, next_of, sound, stands, writes
+from bookagain.errand import fits, meant, next_of, open_of, sound, stands, writes
 from helper import BookCase, WHOLE
 from helper import num, var, plus, less_by, times, is_less, alike
 from helper import nothing, put, step, wait, listen, send, fail, then, choice, loop, beside, limit, catch, deal, change
@@ -15,7 +15,7 @@ ONE_OF_EACH = [
 ]
 BAD_LOOP = loop(num(0), nothing())
 CALLS_WITH_BOOKS = (fits, meant, stands)
-CALLS_WITH_BOOKS_ALONE = (sound,)
+CALLS_WITH_BOOKS_ALONE = (sound, open_of)
 NEXT = [word(0, 1), [0, 5, 0], [5, 0, 0]]
 NO_NEXT = [[], [4], [4, 0], [4, 0, 1, 4], [6, 0, 0], [7, 0, 0], [WHOLE - 1, 0, 0], [2, 0, 1], [3, 0, 1], [5, 1, 0], [5, 0, 1],
            [5, 1, 1], [2, 0, WHOLE - 1], [3, 0, WHOLE - 1], [5, WHOLE - 1, 0]]
